@@ -1,0 +1,1 @@
+"""Two who commit themselves: a talk by turns, kept to its rules."""

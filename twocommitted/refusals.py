@@ -1,0 +1,12 @@
+"""The numbers that refusals answer."""
+
+NOT_IN_STORE = -6
+BEFORE_BEGIN = -11
+NOT_OPEN = -16
+SO_ALREADY = -17
+NOT_RIGHT = -22
+TOO_MANY = -28
+CANNOT_BE = -33
+NOT_UNSURE = -61
+NO_REASON = -62
+TIME_IS_UP = -75
