@@ -1,5 +1,7 @@
 """What the tests share: the calls by their names, ways to ask them and to look about, and a model of the rules."""
 
+import copy
+import itertools
 import unittest
 
 from twocommitted.talk import answers
@@ -39,8 +41,47 @@ def since(q):
     return [11, q]
 
 
+TURN = [12]
+OPEN = [13]
+AGREED = [18]
+QUARREL = [19]
+COMMON = [20]
+KINDS = [21]
+STATE = [23]
+
+
+def store(s):
+    return [14, s]
+
+
+def bound(s, p):
+    return [15, s, p]
+
+
+def barred(s, p):
+    return [16, s, p]
+
+
+def reason(s, p):
+    return [17, s, p]
+
+
+def would(p):
+    return [22, p]
+
+
 WITH_ONE = {"say": say, "ask": ask, "why": why, "drop": drop, "since": since}
 ALONE = {"accept": ACCEPT, "reject": REJECT, "pass": PASS, "yes": YES, "no": NO, "unsure": UNSURE}
+
+TELL_ALONE = [TURN, OPEN, AGREED, QUARREL, COMMON, KINDS, STATE]
+OF_PERSON = [bound, barred, reason]
+
+
+def tellings(persons, given):
+    """Every call that tells, with each of these persons and of these propositions."""
+    of_both = [form(s, p) for form in OF_PERSON for s in persons for p in given]
+    return TELL_ALONE + [store(s) for s in persons] + of_both + [would(p) for p in given]
+
 
 NOTHING = {"say", "ask", "why", "drop"}
 SAID = {"accept", "reject", "pass", "why"}
@@ -72,6 +113,16 @@ def last(calls):
     """What the last of these calls answers, which is one number."""
     (number,) = told(calls)[-1]
     return number
+
+
+def tells(calls, call):
+    """What this call answers behind these, as a list."""
+    return told(calls + [call])[-1]
+
+
+def standing(calls):
+    """Whose turn it is and how many moves were made, what is open, 0's store, 1's store, and the state."""
+    return told(calls + [TURN, OPEN, store(0), store(1), STATE])[-5:]
 
 
 def propositions(calls):
@@ -137,17 +188,33 @@ def turn_over(m):
     return [ask(2 ** 2 ** m - 1), YES, PASS]
 
 
+def with_stores(m, first, second):
+    """Nothing is open, it's 1's turn, 0's store is the first of these, and 1's the second."""
+    line = [begin(m)]
+    for p in first:
+        line += [say(p), PASS]
+    line += turn_over(m)
+    for p in second:
+        line += [say(p), PASS]
+    if standing(line)[2:4] != [[len(first), *first], [len(second), *second]]:
+        raise AssertionError(f"no talk in this way comes to {first} and {second}")
+    return line
+
+
 class TalkCase(unittest.TestCase):
 
     def assert_nothing_open(self, calls):
+        self.assertEqual(tells(calls, OPEN), [0, 0])
         self.assertEqual(moves_there_are(calls), NOTHING)
 
     def assert_said(self, calls, p):
+        self.assertEqual(tells(calls, OPEN), [1, p])
         self.assertEqual(moves_there_are(calls), SAID)
         self.assertEqual(said_behind(calls), [p])
 
     def assert_asked(self, calls, p):
         """Asked for p: a yes says p, a no its opposite, and one of both is always free to be said."""
+        self.assertEqual(tells(calls, OPEN), [2, p])
         self.assertEqual(moves_there_are(calls), ASKED)
         greatest = len(propositions(calls)) - 1
         answered = 0
@@ -158,6 +225,7 @@ class TalkCase(unittest.TestCase):
         self.assertGreater(answered, 0)
 
     def assert_why(self, calls, p):
+        self.assertEqual(tells(calls, OPEN), [3, p])
         self.assertEqual(moves_there_are(calls), WHY)
         self.assertEqual(why_behind(calls), [p])
 
@@ -165,9 +233,13 @@ class TalkCase(unittest.TestCase):
         """The call answers this number, and everything is behind it as it was."""
         self.assertEqual(last(calls + [call]), number)
         behind = calls + [call]
+        self.assertEqual(standing(behind), standing(calls))
         for probe in probes(calls):
             self.assertEqual(last(behind + [probe]), last(calls + [probe]), (calls, call, probe))
         self.assertEqual(moves_left(behind), moves_left(calls))
+
+    def assert_tells(self, calls, call, *expected):
+        self.assertEqual(tells(calls, call), list(expected), (calls, call))
 
 
 class Model:
@@ -176,7 +248,12 @@ class Model:
     def __init__(self):
         self.worlds = None
 
+    def answers(self, call):
+        """What any call answers, as a list."""
+        return self.tell(call) if call[0] > 11 else [self.answer(call)]
+
     def answer(self, call):
+        """What begin or a move answers."""
         if call[0] == 0:
             return self.begin(call[1])
         if self.worlds is None:
@@ -209,14 +286,20 @@ class Model:
             return None
         return frozenset(w for w in self.worlds if number // 2 ** w % 2 == 1)
 
-    def allowed(self):
-        return [w for w in self.worlds if all(w in p for p in self.stores[self.turn])]
+    def number(self, worlds):
+        return sum(2 ** w for w in worlds)
+
+    def all_so_in(self, sayings):
+        return {w for w in self.worlds if all(w in p for p in sayings)}
+
+    def allowed(self, s):
+        return self.all_so_in(self.stores[s])
 
     def bound(self, p):
-        return all(w in p for w in self.allowed())
+        return all(w in p for w in self.allowed(self.turn))
 
     def barred(self, p):
-        return not any(w in p for w in self.allowed())
+        return not any(w in p for w in self.allowed(self.turn))
 
     def commit(self, p, matter):
         if self.barred(p):
@@ -293,3 +376,111 @@ class Model:
 
     def why_drop(self, given, p):
         return self.nothing_drop(p) if given == p else -16
+
+    def tell(self, call):
+        if self.worlds is None:
+            return [-11]
+        names = ["turn", "open", "store", "bound", "barred", "reason", "agreed", "quarrel", "common", "kinds", "would",
+                 "state"]
+        name = names[call[0] - 12]
+        given = list(call[1:])
+        if name in ("store", "bound", "barred", "reason") and given[0] not in (0, 1):
+            return [-2]
+        if name in ("bound", "barred", "reason", "would"):
+            given[-1] = self.proposition(given[-1])
+            if given[-1] is None:
+                return [-22]
+        return getattr(self, f"tell_{name}")(*given)
+
+    def tell_turn(self):
+        return [self.turn, self.made]
+
+    def tell_open(self):
+        return [["nothing", "said", "asked", "why"].index(self.matter[0]), sum(self.number(p) for p in self.matter[1:])]
+
+    def tell_store(self, s):
+        return [len(self.stores[s])] + [self.number(p) for p in self.stores[s]]
+
+    def tell_bound(self, s, p):
+        return [int(self.allowed(s) <= p)]
+
+    def tell_barred(self, s, p):
+        return [int(self.allowed(s).isdisjoint(p))]
+
+    def ways(self, sayings, p):
+        """The sets of as few as can be, as places, that bind to p."""
+        for size in range(len(sayings) + 1):
+            found = [places for places in itertools.combinations(range(len(sayings)), size)
+                     if self.all_so_in([sayings[i] for i in places]) <= p]
+            if found:
+                return found
+        return []
+
+    def fewest(self, sayings, p):
+        return min(self.ways(sayings, p), key=lambda places: sum(2 ** i for i in places))
+
+    def tell_reason(self, s, p):
+        if not self.allowed(s) <= p:
+            return [-33]
+        places = self.fewest(self.stores[s], p)
+        return [len(places)] + [self.number(self.stores[s][i]) for i in places]
+
+    def tell_agreed(self):
+        worlds = self.allowed(0) & self.allowed(1)
+        return [len(worlds), self.number(worlds)]
+
+    def tell_common(self):
+        worlds = self.allowed(0) | self.allowed(1)
+        return [len(worlds), self.number(worlds)]
+
+    def tell_quarrel(self):
+        if self.allowed(0) & self.allowed(1):
+            return [-33]
+        places = self.fewest(self.stores[0] + self.stores[1], frozenset())
+        size = len(self.stores[0])
+        first = [self.number(self.stores[0][i]) for i in places if i < size]
+        second = [self.number(self.stores[1][i - size]) for i in places if i >= size]
+        return [len(first), len(second)] + first + second
+
+    def tell_kinds(self):
+        return {"nothing": [4, 1, 2, 3, 4], "said": [4, 3, 5, 6, 7], "asked": [3, 8, 9, 10], "why": [2, 4, 11]}[
+            self.matter[0]]
+
+    def tell_would(self, p):
+        if self.bound(p):
+            return [1]
+        return [0] if self.barred(p) else [2]
+
+    def tell_state(self):
+        letters = {2: 1, 4: 2, 8: 3}[len(self.worlds)]
+        return [letters, len(self.stores[0]), len(self.stores[1]), self.turn, self.tell_open()[0], self.made]
+
+
+def a_call(dice, limit):
+    """A begin that is refused, or any move."""
+    if dice.random() < 0.01:
+        return begin(dice.choice((0, 4, MOST)))
+    if dice.random() < 0.4:
+        return dice.choice(list(ALONE.values()))
+    given = dice.choice((dice.randrange(limit), limit - 1 - 2 ** dice.randrange(limit.bit_length() - 1), limit, 0))
+    return dice.choice(list(WITH_ONE.values()))(given)
+
+
+def a_talk(dice, most):
+    """So many calls at most, and what they answer; most of them are moves that the model does not refuse."""
+    model = Model()
+    letters = dice.choice((1, 2, 2, 3, 3, 3))
+    # Some talks with next to no refusals, so that time is up in them early.
+    passed_over = dice.choice((0.9, 0.99))
+    # Few talks would come to a store of six by themselves.
+    line = full_store() if letters == 3 and dice.random() < 0.5 else [begin(letters)]
+    numbers = [model.answer(call) for call in line]
+    while len(line) < most:
+        call = a_call(dice, 2 ** 2 ** letters)
+        if dice.random() < passed_over and -75 < copy.copy(model).answer(call) < 0:
+            continue
+        line.append(call)
+        numbers.append(model.answer(call))
+        if numbers[-1] == -75 and dice.random() < 0.5:
+            break
+    return line, numbers

@@ -2,8 +2,9 @@
 
 from tests.helper import (
     ACCEPT, ALONE, MOST, NO, PASS, TalkCase, WITH_ONE, YES, ask, begin, drop, last, moves_left, other_store, own_store,
-    probes, say, since, told, why)
+    probes, say, since, standing, tellings, told, why)
 
+EVERY_TELLING = tellings((0, 1, 2, MOST), (0, 3, 4, MOST))
 EVERY_MOVE = list(ALONE.values()) + [form(p) for form in WITH_ONE.values() for p in (0, 1, 3, 4, MOST)]
 
 
@@ -23,6 +24,18 @@ class Begin(TalkCase):
         for m in (0, 4, MOST):
             for call in EVERY_MOVE:
                 self.assertEqual(told([begin(m), call]), [[-22], [-11]], (m, call))
+
+    def test_every_telling_before_a_begin(self):
+        self.assertEqual({call[0] for call in EVERY_TELLING}, set(range(12, 24)))
+        for call in EVERY_TELLING:
+            self.assertEqual(told([call]), [[-11]], call)
+            self.assertEqual(told([call, call, begin(1)]), [[-11], [-11], [0]], call)
+
+    def test_every_telling_behind_a_refused_begin(self):
+        for m in (0, 4, MOST):
+            for call in EVERY_TELLING:
+                self.assertEqual(told([begin(m), call]), [[-22], [-11]], (m, call))
+                self.assertEqual(told([call, begin(m), call, say(1)]), [[-11], [-22], [-11], [-11]], (m, call))
 
     def test_what_was_refused_before_a_begin_leaves_no_trace(self):
         line = [say(1), ask(1), begin(0), YES, begin(4), begin(2)]
@@ -44,6 +57,7 @@ class Begin(TalkCase):
     def assert_like_new(self, line, m):
         for probe in probes([begin(m)]):
             self.assertEqual(last(line + [probe]), last([begin(m), probe]), probe)
+        self.assertEqual(standing(line), [[0, 0], [0, 0], [0], [0], [m, 0, 0, 0, 0, 0]])
         self.assertEqual(own_store(line), set())
         self.assertEqual(other_store(line), set())
         self.assertEqual(moves_left(line), 40)

@@ -1,6 +1,7 @@
 """The form of the package's files: those rules of the language that can be seen one by one."""
 
 import ast
+import builtins
 import pathlib
 import re
 import unittest
@@ -146,6 +147,26 @@ class Form(unittest.TestCase):
                         self.assertIn(node.func.attr, own | METHODS)
                     if isinstance(node, ast.Compare) and isinstance(node.ops[0], (ast.Is, ast.IsNot)):
                         self.assertIsInstance(node.comparators[0], ast.Constant)
+
+
+    def test_no_local_is_called_like_a_class_or_an_import(self):
+        for path, text, tree in read_all():
+            with self.subTest(path.name):
+                taken = {node.name for node in tree.body if isinstance(node, ast.ClassDef)}
+                taken |= {alias.name for node in tree.body if isinstance(node, ast.ImportFrom) for alias in node.names}
+                for definition in ast.walk(tree):
+                    if isinstance(definition, ast.FunctionDef):
+                        self.assertFalse((names_bound(definition) - {definition.name}) & taken, definition.name)
+                        self.assertFalse((names_bound(definition) - {"__init__"}) & set(dir(builtins)))
+
+    def test_a_list_or_dict_at_the_top_holds_none(self):
+        for path, text, tree in read_all():
+            with self.subTest(path.name):
+                for node in tree.body:
+                    if isinstance(node, ast.Assign):
+                        held = [part for part in ast.walk(node.value) if isinstance(part, (ast.List, ast.Dict))]
+                        self.assertLessEqual(len(held), 1)
+                        self.assertTrue(held in ([], [node.value]))
 
 
 class Drawn(unittest.TestCase):

@@ -13,7 +13,7 @@ MOVES_FOR = ((1, 2, 3, 4), (3, 5, 6, 7), (8, 9, 10), (4, 11))
 
 
 def say(record, given):
-    if record.is_bound(given):
+    if record.is_bound(record.mover, given):
         return SO_ALREADY
     return record.commit_and_finish(given, SAID, given)
 
@@ -65,7 +65,7 @@ def deny(record):
 
 
 def unsure(record):
-    if record.is_bound(record.topic) or record.is_barred(record.topic):
+    if record.is_bound(record.mover, record.topic) or record.is_barred(record.mover, record.topic):
         return NOT_UNSURE
     return record.finish(NOTHING, 0)
 

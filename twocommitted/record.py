@@ -41,19 +41,21 @@ class Record:
     def other_store(self):
         return self.stores[1 - self.mover]
 
-    def is_bound(self, proposition):
-        """Whether the one whose turn it is is bound to it."""
-        return follows(proposition, worlds_allowed(self.letters, self.own_store()))
+    def worlds_of(self, person):
+        """The worlds that a person allows, as a proposition."""
+        return worlds_allowed(self.letters, self.stores[person])
 
-    def is_barred(self, proposition):
-        """Whether the one whose turn it is is barred from it."""
-        return excludes(proposition, worlds_allowed(self.letters, self.own_store()))
+    def is_bound(self, person, proposition):
+        return follows(proposition, self.worlds_of(person))
+
+    def is_barred(self, person, proposition):
+        return excludes(proposition, self.worlds_of(person))
 
     def commit(self, proposition):
         """Commit the one whose turn it is: the refusal's number, or 0 if it is not refused."""
-        if self.is_barred(proposition):
+        if self.is_barred(self.mover, proposition):
             return CANNOT_BE
-        if self.is_bound(proposition):
+        if self.is_bound(self.mover, proposition):
             return 0
         if len(self.own_store()) >= MOST_IN_STORE:
             return TOO_MANY

@@ -1,5 +1,6 @@
 """The numbers that refusals answer."""
 
+NO_SUCH_PERSON = -2
 NOT_IN_STORE = -6
 BEFORE_BEGIN = -11
 NOT_OPEN = -16
